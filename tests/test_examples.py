@@ -1,0 +1,47 @@
+"""The examples of the document's interface, word for word, and those of the README."""
+
+import doctest
+import pathlib
+import unittest
+
+RULES = """
+>>> from cutsagain.rules import Rule, cuts, pieces
+>>> ones = Rule(2, 1, ((1,),), 1, None)
+>>> short = Rule(2, 1, ((1,),), 2, 3)
+>>> [cuts(ones, (0, 0, 1, 0, 1, 1)), pieces(ones, (0, 1, 0)), cuts(short, (1, 1, 1, 1, 1)), cuts(short, (0, 0, 0, 1, 0, 0)), short.most]
+[[3, 5, 6], [(0, 1), (0,)], [2, 4], [3, 6], 3]
+"""
+
+GROWING = """
+>>> from cutsagain.growing import is_ring, longest, ring
+>>> from cutsagain.rules import Rule
+>>> ones = Rule(2, 1, ((1,),), 1, None)
+>>> short = Rule(2, 1, ((1,),), 2, 3)
+>>> [longest(ones), longest(short), ring(short), is_ring(ones, ((0,), (0,))), is_ring(ones, ((), (0,))), is_ring(ones, ring(ones))]
+[None, (3, (0, 0, 0)), None, True, False, True]
+"""
+
+
+class ExamplesTest(unittest.TestCase):
+    def run_examples(self, text):
+        said = []
+        examples = doctest.DocTestParser().get_doctest(text, {}, "examples", None, 0)
+        result = doctest.DocTestRunner(verbose=False).run(examples, out=said.append)
+        self.assertEqual(result.failed, 0, "".join(said))
+        self.assertGreater(result.attempted, 0)
+
+    def test_rules(self):
+        self.run_examples(RULES)
+
+    def test_growing(self):
+        self.run_examples(GROWING)
+
+    def test_readme(self):
+        readme = pathlib.Path(__file__).resolve().parent.parent / "README.md"
+        lines = readme.read_text(encoding="utf-8").split("\n")
+        # An empty line ends an example, the fence of its block would be read as output.
+        self.run_examples("\n".join("" if line.startswith("```") else line for line in lines))
+
+
+if __name__ == "__main__":
+    unittest.main()
