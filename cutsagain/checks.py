@@ -1,6 +1,6 @@
 """Checks of values of any kind. Those called check_.. raise the error that the value calls for."""
 
-from cutsagain.errors import BadLengths, BadSigns, BadText, BadWindow, BadWords
+from cutsagain.errors import BadLengths, BadNumber, BadSigns, BadText, BadWindow, BadWords
 
 LONGEST_TEXT = 400
 
@@ -21,6 +21,11 @@ def are_signs(value, signs):
         if not is_number(sign, 0, signs - 1):
             return False
     return True
+
+
+def is_text(value, signs):
+    """Whether a value of any kind is a text."""
+    return are_signs(value, signs) and len(value) <= LONGEST_TEXT
 
 
 def check_signs(signs):
@@ -52,5 +57,10 @@ def check_lengths(least, most):
 
 
 def check_text(value, signs):
-    if not are_signs(value, signs) or len(value) > LONGEST_TEXT:
+    if not is_text(value, signs):
         raise BadText("a text is a tuple of at most 400 signs")
+
+
+def check_number(value, low, high):
+    if not is_number(value, low, high):
+        raise BadNumber("a number is an integer from its least to its greatest value")

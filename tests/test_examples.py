@@ -21,6 +21,41 @@ GROWING = """
 [None, (3, (0, 0, 0)), None, True, False, True]
 """
 
+MEETING = """
+>>> from cutsagain.meeting import apart, differences, for_ever, is_for_ever, meets, together
+>>> from cutsagain.rules import Rule
+>>> ones = Rule(2, 1, ((1,),), 1, None)
+>>> short = Rule(2, 1, ((1,),), 2, 3)
+>>> [meets(ones), differences(ones), meets(short), differences(short), for_ever(ones), is_for_ever(short, ((0, 0, 0), (0,), (0, 0, 0)))]
+[0, 1, None, None, None, True]
+>>> [together(ones, (0, 1), (1, 1, 1)), apart(ones, (0, 1, 0), (0, 1, 1)), is_for_ever(short, for_ever(short))]
+[True, 1, True]
+"""
+
+SIDES = """
+>>> from cutsagain.rules import Rule
+>>> from cutsagain.sides import alike, fewest_words, needless, parting
+>>> ones = Rule(2, 1, ((1,),), 1, None)
+>>> [parting(ones, Rule(2, 1, ((1,),), 2, None)), alike(ones, ones), needless(Rule(2, 1, ((1,),), 1, 1)), needless(ones)]
+[(1,), True, [(1,)], []]
+>>> [fewest_words(ones, 2, 1), fewest_words(ones, 2, 0), parting(ones, Rule(2, 2, ((0, 1), (1, 1)), 1, None))]
+[[((0,),)], [], (1,)]
+"""
+
+COUNTING = """
+>>> from cutsagain.counting import cut_counts, first_cuts, mean_first
+>>> from cutsagain.rules import Rule
+>>> ones = Rule(2, 1, ((1,),), 1, None)
+>>> [first_cuts(ones, 3), cut_counts(ones, 2), mean_first(Rule(2, 1, ((1,),), 2, 3)), mean_first(ones)]
+[[0, 1, 1, 1], [1, 2, 1], (5, 2), None]
+"""
+
+TOLD = """
+>>> from cutsagain.told import fitting
+>>> [fitting(2, 1, 1, None, [((0, 1), (2,))]), fitting(2, 1, 1, None, []), fitting(2, 1, 1, None, [((0, 0), (2,))])]
+[(1, [(1,)], [(1,)]), (4, [], [(0,), (1,)]), (0, [], [])]
+"""
+
 
 class ExamplesTest(unittest.TestCase):
     def run_examples(self, text):
@@ -35,6 +70,18 @@ class ExamplesTest(unittest.TestCase):
 
     def test_growing(self):
         self.run_examples(GROWING)
+
+    def test_meeting(self):
+        self.run_examples(MEETING)
+
+    def test_sides(self):
+        self.run_examples(SIDES)
+
+    def test_counting(self):
+        self.run_examples(COUNTING)
+
+    def test_told(self):
+        self.run_examples(TOLD)
 
     def test_readme(self):
         readme = pathlib.Path(__file__).resolve().parent.parent / "README.md"

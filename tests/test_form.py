@@ -20,11 +20,17 @@ BUILTINS = {name for name in dir(builtins) if name != "_"}
 
 NODES = (ast.Global, ast.AsyncFunctionDef, ast.Await, ast.Div, ast.GeneratorExp, ast.Set, ast.SetComp, ast.Import)
 
+LIBRARY = {"math": {"gcd"}, "itertools": {"combinations"}}
+
 INTERFACE = {
     "errors.py": {"CutError", "BadSigns", "BadWindow", "BadLengths", "BadText", "BadNumber", "Unlike", "TooMany",
                   "BadWords", "BadSeen", "BadLine"},
     "rules.py": {"Rule", "cuts", "pieces"},
     "growing.py": {"longest", "ring", "is_ring"},
+    "meeting.py": {"together", "apart", "meets", "is_for_ever", "for_ever", "differences"},
+    "sides.py": {"parting", "alike", "needless", "fewest_words"},
+    "counting.py": {"first_cuts", "cut_counts", "mean_first"},
+    "told.py": {"fitting"},
 }
 
 
@@ -61,6 +67,10 @@ class FormTest(unittest.TestCase):
         for name, node in self.each_node():
             if isinstance(node, ast.ImportFrom):
                 self.assertEqual(node.level, 0, name)
+                if node.module in LIBRARY:
+                    self.assertLessEqual({alias.name for alias in node.names}, LIBRARY[node.module], name)
+                    self.assertEqual({alias.asname for alias in node.names}, {None}, name)
+                    continue
                 package, module = node.module.split(".")
                 self.assertEqual(package, "cutsagain", name)
                 tree = ast.parse((PACKAGE / f"{module}.py").read_text(encoding="utf-8"))
