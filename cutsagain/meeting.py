@@ -1,7 +1,7 @@
 """How cuts come back: behind how many equal signs two texts are cut alike, and what one changed sign can cost."""
 
 from cutsagain.checks import are_signs, check_text
-from cutsagain.pairs import both_read, unlike_moves, unlike_pairs
+from cutsagain.pairs import both_read, greatest_cost, unlike_moves, unlike_pairs
 from cutsagain.rules import cuts
 from cutsagain.stands import START, walk
 from cutsagain.tables import table
@@ -91,14 +91,7 @@ def is_way_back(rule, text, signs):
 def differences(rule):
     """The greatest number of cuts that one changed sign can cost, None if it has no end."""
     _, rows = table(rule)
-    firsts = changed_signs(rows)
-    moves = unlike_moves(rows, list(firsts))
-    costs = dearest(moves)
-    # A pair that comes back costs each time: a cut of both would make their stands alike, once they have read
-    # a window of equal signs; and without any cut pieces grow, or are both as long as lengths are told apart.
-    if len(costs) < len(moves):
-        return None
-    return max([cost + costs[pair] for pair, cost in firsts.items()])
+    return greatest_cost(rows, changed_signs(rows))
 
 
 def changed_signs(rows):

@@ -1,5 +1,7 @@
 """Pairs of stands that read the same signs. A pair is a tuple of two numbers of stands of a rule's table."""
 
+from cutsagain.walks import dearest
+
 
 def both_read(rows, pair, sign):
     """The pair behind one sign more of both, and the number of cuts there that just one of both has: 0 or 1."""
@@ -28,3 +30,17 @@ def unlike_moves(rows, firsts):
             moves[pair] = [(after, cost) for after, cost in steps if after[0] != after[1]]
             waiting.extend([after for after, _ in moves[pair]])
     return moves
+
+
+def greatest_cost(rows, firsts):
+    """The greatest number of cuts that just one of a pair has, over all signs behind any first pair.
+
+    `firsts` has for each first pair the cost that comes with it. None if the number has no end.
+    """
+    moves = unlike_moves(rows, list(firsts))
+    costs = dearest(moves)
+    # A pair that comes back costs each time: a cut of both would make their stands alike, once they have read
+    # a window of equal signs; and without any cut pieces grow, or are both as long as lengths are told apart.
+    if len(costs) < len(moves):
+        return None
+    return max([cost + costs[pair] for pair, cost in firsts.items()])

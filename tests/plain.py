@@ -6,6 +6,15 @@ from cutsagain.rules import Rule
 
 LENGTHS = [(least, most) for least in range(1, 7) for most in (None, *range(least, 9))]
 
+# Values that are no texts of two signs.
+NO_TEXTS = (None, True, False, 0, 1, "", "01", [], [0], {}, {0: 0}, (2,), (-1,), (0, True), (False,), ("0",), (None,),
+            ((0,),), ([0],), (0,) * 401)
+
+
+def told(rule):
+    """What a rule was made of, to tell it when a test fails."""
+    return rule.signs, rule.window, rule.words, rule.least, rule.most
+
 
 def all_texts(signs, longest):
     """All tuples of at most so many signs, shorter ones first, then lesser ones."""
@@ -22,6 +31,13 @@ def some_rules(signs, window, lengths, every=1):
     """The rules of all sets of words, or of every so many-th one, with the given lengths."""
     return [Rule(signs, window, words, least, most)
             for words in all_words(signs, window)[::every] for least, most in lengths]
+
+
+def many_rules():
+    """Rules of many kinds, some of them with answers of all sizes, and not too slow for searches through pairs."""
+    return (some_rules(2, 1, LENGTHS[::3]) + some_rules(2, 2, [(1, None), (2, None), (1, 3)])
+            + some_rules(2, 3, [(1, None), (2, None)], 30) + some_rules(3, 1, LENGTHS[::9])
+            + some_rules(3, 2, [(1, None), (2, None)], 100))
 
 
 def is_cut(rule, text, length):

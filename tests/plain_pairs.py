@@ -56,20 +56,47 @@ def short_differences(rule, texts, longest):
 def plain_differences(rule):
     """differences, by more and more signs behind the changed one."""
     texts = with_stands(rule)
-    layer = {}
+    return plain_greatest(rule, texts, [both_longer(rule, texts, (text, text), signs) for text in texts.values()
+                                        for signs in combinations(range(rule.signs), 2)])
+
+
+def plain_shifted(rule, text, place, sign):
+    longer = text[:place] + (sign,) + text[place:]
+    text_cuts, longer_cuts = plain_cuts(rule, text), plain_cuts(rule, longer)
+    cost = 1 if place + 1 in longer_cuts else 0
+    for many in range(place + 1, len(text) + 1):
+        if (many in text_cuts) != (many + 1 in longer_cuts):
+            cost += 1
+    return cost
+
+
+def short_put_in(rule, texts, longest):
+    """The greatest cost of a sign that is put in behind one of the texts, and so many signs ahead at most."""
+    return max(plain_shifted(rule, text + signs, len(text), sign)
+               for text in texts for signs in all_texts(rule.signs, longest) for sign in range(rule.signs))
+
+
+def plain_put_in(rule):
+    """put_in, by more and more signs behind the one that is put in."""
+    texts = with_stands(rule)
+    firsts = []
     for text in texts.values():
-        for one, other in combinations(range(rule.signs), 2):
-            add_pair(rule, texts, layer, (text, text), (one, other), 0)
+        for sign in range(rule.signs):
+            longer = text + (sign,)
+            firsts.append(((text, texts[plain_stand(rule, longer)]), plain_shifted(rule, text, len(text), sign)))
+    return plain_greatest(rule, texts, firsts)
+
+
+def plain_greatest(rule, texts, firsts):
+    """The greatest cost of signs behind any first pair of texts, all pairs told with what they cost; or None."""
+    best = max(cost for _, cost in firsts)
+    layer = dearest_unlike(firsts)
     seen = set(layer)
-    best = max(layer.values())
     for _ in range(100000):
-        further = {}
-        for pair, cost in layer.items():
-            for sign in range(rule.signs):
-                add_pair(rule, texts, further, pair, (sign, sign), cost)
-        if not further:
+        layer = dearest_unlike([both_longer(rule, texts, pair, (sign, sign), cost)
+                                for pair, cost in layer.items() for sign in range(rule.signs)])
+        if not layer:
             return best
-        layer = further
         seen |= set(layer)
         best = max(best, *layer.values())
         # So many differences that some pair came back with one between: that goes on for ever.
@@ -78,14 +105,20 @@ def plain_differences(rule):
     raise AssertionError("no end is in sight")
 
 
-def add_pair(rule, texts, layer, pair, signs, cost):
-    """Put texts with the stands behind one sign more of each into the layer, if these are unlike."""
+def both_longer(rule, texts, pair, signs, cost=0):
+    """Texts with the stands behind one sign more of each, and the cost so far."""
     longer = [text + (sign,) for text, sign in zip(pair, signs)]
     ends = [len(text) in plain_cuts(rule, text) for text in longer]
-    cost += ends[0] != ends[1]
-    after = tuple(texts[plain_stand(rule, text)] for text in longer)
-    if after[0] != after[1]:
-        layer[after] = max(layer.get(after, 0), cost)
+    return tuple(texts[plain_stand(rule, text)] for text in longer), cost + (ends[0] != ends[1])
+
+
+def dearest_unlike(pairs):
+    """A dict of the pairs of unlike texts, each with its greatest cost."""
+    layer = {}
+    for pair, cost in pairs:
+        if pair[0] != pair[1]:
+            layer[pair] = max(layer.get(pair, 0), cost)
+    return layer
 
 
 def plain_parting(one, other, limit):

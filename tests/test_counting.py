@@ -6,15 +6,11 @@ from cutsagain.counting import cut_counts, first_cuts, mean_first
 from cutsagain.errors import BadNumber
 from cutsagain.rules import Rule
 
-from tests.plain import LENGTHS, plain_cuts, some_rules
+from tests.plain import LENGTHS, plain_cuts, some_rules, told
 
 ONES = Rule(2, 1, ((1,),), 1, None)
 SHORT = Rule(2, 1, ((1,),), 2, 3)
 NO_PLACES = (None, True, False, -1, 31, 400, "1", "", (), (1,), [1], [], {}, {1: 1})
-
-
-def told(rule):
-    return rule.signs, rule.window, rule.words, rule.least, rule.most
 
 
 def some():

@@ -2,7 +2,10 @@
 
 import doctest
 import pathlib
+import re
 import unittest
+
+from cutsagain.errors import CutError
 
 RULES = """
 >>> from cutsagain.rules import Rule, cuts, pieces
@@ -56,11 +59,54 @@ TOLD = """
 [(1, [(1,)], [(1,)]), (4, [], [(0,), (1,)]), (0, [], [])]
 """
 
+DESKS = """
+>>> from cutsagain.desks import Desk
+>>> from cutsagain.rules import Rule
+>>> desk = Desk(Rule(2, 1, ((1,),), 1, None))
+>>> [desk.tell((0, 1, 0)), desk.waits(), desk.tell((1,)), desk.places(), desk.undo(), desk.text, len(desk)]
+[[2], (0,), [4], [2, 4], True, (0, 1, 0), 1]
+"""
+
+TEXTS = r"""
+>>> from cutsagain.rules import Rule
+>>> from cutsagain.texts import read, write
+>>> short = Rule(2, 1, ((1,),), 2, 3)
+>>> [write(short).split("\n"), read(write(short)) == short, read("rule 3 2 1 none").most]
+[['rule 2 1 2 3', 'word 1'], True, None]
+>>> read("rule 2 1 1 none\nword 1\nword 0")
+raises BadLine(line=3, word=0)
+"""
+
+SHIFTING = """
+>>> from cutsagain.rules import Rule
+>>> from cutsagain.shifting import put_in, shifted
+>>> ones = Rule(2, 1, ((1,),), 1, None)
+>>> short = Rule(2, 1, ((1,),), 2, 3)
+>>> [shifted(ones, (0, 1, 0), 1, 1), shifted(ones, (0, 1, 0), 1, 0), put_in(ones), put_in(short), shifted(short, (0, 0, 0, 0, 0, 0), 0, 0)]
+[1, 0, 1, None, 4]
+"""
+
+
+class Raised:
+    """What the document says of an error that a call raises."""
+
+    def __init__(self, call):
+        try:
+            self.told = repr(call())
+        except CutError as error:
+            fields = ", ".join(f"{name}={value!r}" for name, value in vars(error).items())
+            self.told = f"raises {type(error).__name__}({fields})"
+
+    def __repr__(self):
+        return self.told
+
 
 class ExamplesTest(unittest.TestCase):
     def run_examples(self, text):
         said = []
-        examples = doctest.DocTestParser().get_doctest(text, {}, "examples", None, 0)
+        # An error that the document tells in words is a value, for a doctest.
+        text = re.sub(r">>> (.*)\n(?=raises )", r">>> raised(lambda: \1)\n", text)
+        examples = doctest.DocTestParser().get_doctest(text, {"raised": Raised}, "examples", None, 0)
         result = doctest.DocTestRunner(verbose=False).run(examples, out=said.append)
         self.assertEqual(result.failed, 0, "".join(said))
         self.assertGreater(result.attempted, 0)
@@ -82,6 +128,15 @@ class ExamplesTest(unittest.TestCase):
 
     def test_told(self):
         self.run_examples(TOLD)
+
+    def test_desks(self):
+        self.run_examples(DESKS)
+
+    def test_texts(self):
+        self.run_examples(TEXTS)
+
+    def test_shifting(self):
+        self.run_examples(SHIFTING)
 
     def test_readme(self):
         readme = pathlib.Path(__file__).resolve().parent.parent / "README.md"

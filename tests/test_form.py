@@ -31,6 +31,9 @@ INTERFACE = {
     "sides.py": {"parting", "alike", "needless", "fewest_words"},
     "counting.py": {"first_cuts", "cut_counts", "mean_first"},
     "told.py": {"fitting"},
+    "desks.py": {"Desk"},
+    "texts.py": {"write", "read"},
+    "shifting.py": {"shifted", "put_in"},
 }
 
 

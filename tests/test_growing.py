@@ -3,14 +3,10 @@ import unittest
 from cutsagain.growing import is_ring, longest, ring
 from cutsagain.rules import Rule
 
-from tests.plain import LENGTHS, all_texts, grows_for_ever, plain_is_ring, plain_longest, some_rules
+from tests.plain import LENGTHS, all_texts, grows_for_ever, plain_is_ring, plain_longest, some_rules, told
 
 ONES = Rule(2, 1, ((1,),), 1, None)
 SHORT = Rule(2, 1, ((1,),), 2, 3)
-
-
-def told(rule):
-    return rule.signs, rule.window, rule.words, rule.least, rule.most
 
 
 class LongestTest(unittest.TestCase):

@@ -5,19 +5,12 @@ from cutsagain.errors import BadText
 from cutsagain.meeting import apart, differences, for_ever, is_for_ever, meets, together
 from cutsagain.rules import Rule, cuts
 
-from tests.plain import LENGTHS, all_texts, plain_cuts, plain_stand, some_rules
+from tests.plain import LENGTHS, NO_TEXTS, all_texts, many_rules, plain_cuts, plain_stand, some_rules, told
 from tests.plain_pairs import (plain_apart, plain_differences, plain_is_for_ever, plain_meets, short_differences,
                                with_stands)
 
 ONES = Rule(2, 1, ((1,),), 1, None)
 SHORT = Rule(2, 1, ((1,),), 2, 3)
-
-NO_TEXTS = (None, True, False, 0, 1, "", "01", [], [0], {}, {0: 0}, (2,), (-1,), (0, True), (False,), ("0",), (None,),
-            ((0,),), ([0],), (0,) * 401)
-
-
-def told(rule):
-    return rule.signs, rule.window, rule.words, rule.least, rule.most
 
 
 def few_rules():
@@ -218,11 +211,8 @@ class DifferencesTest(unittest.TestCase):
         self.assertEqual(differences(Rule(2, 3, ((1, 1, 1),), 1, None)), 3)
 
     def test_against_rounds_of_further_signs(self):
-        rules = (some_rules(2, 1, LENGTHS[::3]) + some_rules(2, 2, [(1, None), (2, None), (1, 3)])
-                 + some_rules(2, 3, [(1, None), (2, None)], 30) + some_rules(3, 1, LENGTHS[::9])
-                 + some_rules(3, 2, [(1, None), (2, None)], 100))
         found = []
-        for rule in rules:
+        for rule in many_rules():
             with self.subTest(rule=told(rule)):
                 found.append(differences(rule))
                 self.assertEqual(found[-1], plain_differences(rule))

@@ -6,17 +6,13 @@ from cutsagain.growing import longest
 from cutsagain.rules import Rule, cuts
 from cutsagain.sides import alike, fewest_words, needless, parting
 
-from tests.plain import LENGTHS, some_rules
+from tests.plain import LENGTHS, some_rules, told
 from tests.plain_pairs import plain_fewest, plain_needless, plain_parting
 
 ONES = Rule(2, 1, ((1,),), 1, None)
 TWO = tuple(product(range(2), repeat=2))
 NINE = tuple(product(range(3), repeat=2))
 NO_NUMBERS = (None, True, False, "1", "", (), (1,), [1], [], {}, {1: 1}, -1)
-
-
-def told(rule):
-    return rule.signs, rule.window, rule.words, rule.least, rule.most
 
 
 class PartingTest(unittest.TestCase):
