@@ -1,6 +1,6 @@
 """Checks of values of any kind. Those called check_.. raise the error that the value calls for."""
 
-from cutsagain.errors import BadLengths, BadNumber, BadSigns, BadText, BadWindow, BadWords
+from cutsagain.errors import BadLengths, BadNumber, BadSigns, BadText, BadWindow, BadWords, Unlike
 
 LONGEST_TEXT = 400
 
@@ -64,3 +64,9 @@ def check_text(value, signs):
 def check_number(value, low, high):
     if not is_number(value, low, high):
         raise BadNumber("a number is an integer from its least to its greatest value")
+
+
+def check_like(one, other):
+    """Check that two rules have the same number of signs."""
+    if one.signs != other.signs:
+        raise Unlike("the rules have unlike numbers of signs")

@@ -1,8 +1,7 @@
 """How many texts have their first cut at a place, and so many cuts in all; and how long first pieces are."""
 
-from math import gcd
-
 from cutsagain.checks import check_number
+from cutsagain.ratios import ratio
 from cutsagain.tables import table
 
 MOST_PLACES = 30
@@ -62,5 +61,4 @@ def mean_first(rule):
         if length > 0:
             lengths = lengths * rule.signs + length * ended
             texts = texts * rule.signs
-    common = gcd(lengths, texts)
-    return lengths // common, texts // common
+    return ratio(lengths, texts)

@@ -2,7 +2,7 @@
 
 from cutsagain.checks import are_signs
 from cutsagain.search import ways
-from cutsagain.stands import START, read_sign, step, walk
+from cutsagain.stands import START, step, true_step, walk
 
 
 def longest(rule):
@@ -19,20 +19,14 @@ def first_ends(rule):
 
     The rule has no ring: with one, lengths would have no end and neither would the search.
     """
-    texts = ways(START, rule.signs, lambda stand, sign: measured(rule, stand, sign))
+    texts = ways(START, rule.signs, lambda stand, sign: true_step(rule, stand, sign)[0])
     ends = {}
     for stand, text in texts.items():
         for sign in range(rule.signs):
-            _, length, is_cut = read_sign(rule, stand, sign)
+            _, is_cut = true_step(rule, stand, sign)
             if is_cut:
-                ends.setdefault(length, text + (sign,))
+                ends.setdefault(stand[1] + 1, text + (sign,))
     return ends
-
-
-def measured(rule, stand, sign):
-    """The stand behind one sign more, but with the true length of the piece where there is no most, too."""
-    last, length, is_cut = read_sign(rule, stand, sign)
-    return last, (0 if is_cut else length)
 
 
 def ring(rule):

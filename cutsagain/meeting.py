@@ -3,7 +3,7 @@
 from cutsagain.checks import are_signs, check_text
 from cutsagain.pairs import both_read, greatest_cost, unlike_moves, unlike_pairs
 from cutsagain.rules import cuts
-from cutsagain.stands import START, walk
+from cutsagain.stands import stand_behind, walk
 from cutsagain.tables import table
 from cutsagain.walks import dearest
 
@@ -13,11 +13,6 @@ def together(rule, one, other):
     check_text(one, rule.signs)
     check_text(other, rule.signs)
     return stand_behind(rule, one) == stand_behind(rule, other)
-
-
-def stand_behind(rule, signs):
-    stand, _ = walk(rule, START, signs)
-    return stand
 
 
 def apart(rule, one, other):

@@ -2,12 +2,11 @@
 
 from itertools import combinations
 
-from cutsagain.checks import check_number
-from cutsagain.errors import Unlike
+from cutsagain.checks import check_like, check_number
 from cutsagain.growing import longest
+from cutsagain.partings import first_parting
 from cutsagain.rules import Rule
-from cutsagain.search import ways
-from cutsagain.stands import START, step
+from cutsagain.stands import START
 from cutsagain.words import all_words, check_few_words
 
 GREATEST_GOAL = 12
@@ -16,22 +15,8 @@ MOST_FURTHER_WORDS = 3
 
 def parting(one, other):
     """The least of the shortest texts at whose end just one of two rules has a cut, None if there is none."""
-    if one.signs != other.signs:
-        raise Unlike("the rules have unlike numbers of signs")
-    # No shortest text that parts them goes on behind a place where they are parted already.
-    texts = ways((START, START), one.signs, lambda stands, sign: step_alike(one, other, stands, sign))
-    for stands, text in texts.items():
-        for sign in range(one.signs):
-            if step_alike(one, other, stands, sign) is None:
-                return text + (sign,)
-    return None
-
-
-def step_alike(one, other, stands, sign):
-    """The stands of two rules behind one sign more, None if just one of them has a cut there."""
-    here, is_cut = step(one, stands[0], sign)
-    there, is_other_cut = step(other, stands[1], sign)
-    return (here, there) if is_cut == is_other_cut else None
+    check_like(one, other)
+    return first_parting(one, other, (START, START))
 
 
 def alike(one, other):

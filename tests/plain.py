@@ -4,6 +4,8 @@ from itertools import combinations, product
 
 from cutsagain.rules import Rule
 
+WINDOWS = [(2, 1), (2, 2), (2, 3), (3, 1), (3, 2), (3, 3)]
+
 LENGTHS = [(least, most) for least in range(1, 7) for most in (None, *range(least, 9))]
 
 # Values that are no texts of two signs.
@@ -23,14 +25,26 @@ def all_texts(signs, longest):
 
 def all_words(signs, window):
     """All sets of words, as ascending tuples."""
-    words = list(product(range(signs), repeat=window))
+    words = all_of(signs, window)
     return [chosen for many in range(len(words) + 1) for chosen in combinations(words, many)]
+
+
+def all_of(signs, window):
+    """The ascending tuple of all words."""
+    return tuple(product(range(signs), repeat=window))
 
 
 def some_rules(signs, window, lengths, every=1):
     """The rules of all sets of words, or of every so many-th one, with the given lengths."""
     return [Rule(signs, window, words, least, most)
             for words in all_words(signs, window)[::every] for least, most in lengths]
+
+
+def rules_of_one_sign(least, most):
+    """The rules by which one sign cuts, with this sign and the least other one."""
+    for signs in (2, 3):
+        for sign in range(signs):
+            yield Rule(signs, 1, ((sign,),), least, most), sign, 1 if sign == 0 else 0
 
 
 def many_rules():

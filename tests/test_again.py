@@ -2,12 +2,17 @@
 
 import unittest
 
+from cutsagain.both import first_common, longest_common
 from cutsagain.counting import cut_counts, first_cuts, mean_first
 from cutsagain.desks import Desk
-from cutsagain.errors import BadLengths, BadLine, BadNumber, BadSeen, BadSigns, BadText, BadWords, CutError, Unlike
+from cutsagain.errors import (BadLengths, BadLine, BadNumber, BadSeen, BadSigns, BadText, BadWords, CutError, TooMany,
+                              Unlike)
 from cutsagain.growing import is_ring, longest, ring
+from cutsagain.kinds import akin, kinds, parted_by
 from cutsagain.meeting import apart, differences, for_ever, is_for_ever, meets, together
+from cutsagain.resets import is_never, least_reset, never, resets
 from cutsagain.rules import Rule, cuts, pieces
+from cutsagain.shares import piece_shares, share
 from cutsagain.shifting import put_in, shifted
 from cutsagain.sides import alike, fewest_words, needless, parting
 from cutsagain.texts import read, write
@@ -27,6 +32,16 @@ def of_a_desk(rule):
     told = [desk.tell(TEXT), desk.tell(OTHER), desk.places(), desk.waits(), desk.text, len(desk)]
     copy = desk.copy()
     return told + [copy.undo(), copy.places(), copy.text, len(copy), desk.undo(), desk.rule == rule, desk.places()]
+
+
+def of_few(question):
+    """A question that can be too much to ask."""
+    def answer(rule):
+        try:
+            return question(rule)
+        except TooMany:
+            return "too many"
+    return answer
 
 
 QUESTIONS = (
@@ -55,6 +70,17 @@ QUESTIONS = (
     lambda rule: write(read(write(rule))),
     lambda rule: shifted(rule, TEXT, 2, 1),
     put_in,
+    lambda rule: resets(rule, TEXT),
+    least_reset,
+    never,
+    lambda rule: is_never(rule, (TEXT, OTHER)),
+    lambda rule: akin(rule, TEXT, OTHER),
+    lambda rule: parted_by(rule, TEXT, OTHER),
+    kinds,
+    of_few(share),
+    of_few(piece_shares),
+    lambda rule: first_common(rule, Rule(rule.signs, 1, (), 1, 5)),
+    lambda rule: longest_common(Rule(rule.signs, 1, (), 1, 5), rule),
 )
 
 WRONG = (
@@ -75,6 +101,13 @@ WRONG = (
     (lambda rule: read(write(rule) + "\nword"), BadLine),
     (lambda rule: shifted(rule, None, None, None), BadText),
     (lambda rule: shifted(rule, (), 1, None), BadNumber),
+    (lambda rule: resets(rule, "0"), BadText),
+    (lambda rule: akin(rule, (0, 1), ((0,),)), BadText),
+    (lambda rule: parted_by(rule, (False,), ()), BadText),
+    (lambda rule: first_common(rule, Rule(5 - rule.signs, 1, (), 1, 5)), Unlike),
+    (lambda rule: longest_common(Rule(5 - rule.signs, 1, (), 1, 5), rule), Unlike),
+    (lambda rule: share(Rule(3, 3, rule.words[:0], 1, 8)), TooMany),
+    (lambda rule: piece_shares(Rule(3, 3, rule.words[:0], 1, 8)), TooMany),
 )
 
 

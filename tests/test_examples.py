@@ -86,6 +86,43 @@ SHIFTING = """
 [1, 0, 1, None, 4]
 """
 
+RESETS = """
+>>> from cutsagain.resets import is_never, least_reset, never, resets
+>>> from cutsagain.rules import Rule
+>>> ones = Rule(2, 1, ((1,),), 1, None)
+>>> short = Rule(2, 1, ((1,),), 2, 3)
+>>> three = Rule(2, 1, (), 1, 3)
+>>> [least_reset(ones), resets(ones, (0,)), resets(ones, ()), least_reset(short), resets(short, (1, 1)), least_reset(three)]
+[(0,), True, False, (1, 0, 1), False, None]
+>>> [is_never(three, never(three)), never(short), is_never(three, ((), (0,))), is_never(three, ((), (0, 1, 1)))]
+[True, None, True, False]
+"""
+
+KINDS = """
+>>> from cutsagain.kinds import akin, kinds, parted_by
+>>> from cutsagain.rules import Rule
+>>> ones = Rule(2, 1, ((1,),), 1, None)
+>>> short = Rule(2, 1, ((1,),), 2, 3)
+>>> [kinds(ones), kinds(short), akin(ones, (0,), (1, 1)), parted_by(short, (), (0,)), parted_by(short, (), (0, 0, 0)), parted_by(short, (0,), (0, 0))]
+[[()], [(), (0,), (0, 0)], True, (1,), None, (0,)]
+"""
+
+SHARES = """
+>>> from cutsagain.rules import Rule
+>>> from cutsagain.shares import piece_shares, share
+>>> ones = Rule(2, 1, ((1,),), 1, None)
+>>> short = Rule(2, 1, ((1,),), 2, 3)
+>>> [share(ones), piece_shares(ones), share(short), piece_shares(short), share(Rule(3, 1, (), 1, 3)), share(Rule(2, 1, (), 1, None))]
+[(1, 2), None, (2, 5), [(2, 1, 2), (3, 1, 2)], (1, 3), (0, 1)]
+"""
+
+BOTH = """
+>>> from cutsagain.both import first_common, longest_common
+>>> from cutsagain.rules import Rule
+>>> [first_common(Rule(2, 1, (), 1, 2), Rule(2, 1, (), 1, 3)), longest_common(Rule(2, 1, (), 1, 2), Rule(2, 1, (), 1, 3)), longest_common(Rule(2, 1, (), 1, 2), Rule(2, 1, ((1,),), 1, None))]
+[(0, 0, 0, 0, 0, 0), (6, (0, 0, 0, 0, 0, 0)), None]
+"""
+
 
 class Raised:
     """What the document says of an error that a call raises."""
@@ -137,6 +174,18 @@ class ExamplesTest(unittest.TestCase):
 
     def test_shifting(self):
         self.run_examples(SHIFTING)
+
+    def test_resets(self):
+        self.run_examples(RESETS)
+
+    def test_kinds(self):
+        self.run_examples(KINDS)
+
+    def test_shares(self):
+        self.run_examples(SHARES)
+
+    def test_both(self):
+        self.run_examples(BOTH)
 
     def test_readme(self):
         readme = pathlib.Path(__file__).resolve().parent.parent / "README.md"

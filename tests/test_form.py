@@ -34,6 +34,10 @@ INTERFACE = {
     "desks.py": {"Desk"},
     "texts.py": {"write", "read"},
     "shifting.py": {"shifted", "put_in"},
+    "resets.py": {"resets", "is_never", "least_reset", "never"},
+    "kinds.py": {"akin", "parted_by", "kinds"},
+    "shares.py": {"share", "piece_shares"},
+    "both.py": {"first_common", "longest_common"},
 }
 
 

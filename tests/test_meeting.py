@@ -6,8 +6,7 @@ from cutsagain.meeting import apart, differences, for_ever, is_for_ever, meets, 
 from cutsagain.rules import Rule, cuts
 
 from tests.plain import LENGTHS, NO_TEXTS, all_texts, many_rules, plain_cuts, plain_stand, some_rules, told
-from tests.plain_pairs import (plain_apart, plain_differences, plain_is_for_ever, plain_meets, short_differences,
-                               with_stands)
+from tests.plain_pairs import plain_differences, plain_is_for_ever, plain_meets, short_differences, with_stands
 
 ONES = Rule(2, 1, ((1,),), 1, None)
 SHORT = Rule(2, 1, ((1,),), 2, 3)

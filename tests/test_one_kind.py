@@ -1,7 +1,6 @@
 """Rules of one kind, of which all that is asked can be told by hand: no words, cuts at each sign, one sign's word."""
 
 import unittest
-from itertools import product
 
 from cutsagain.counting import cut_counts, first_cuts, mean_first
 from cutsagain.growing import is_ring, longest, ring
@@ -10,13 +9,7 @@ from cutsagain.rules import Rule, cuts, pieces
 from cutsagain.sides import alike, fewest_words, needless, parting
 from cutsagain.told import fitting
 
-from tests.plain import LENGTHS, all_texts
-
-WINDOWS = [(2, 1), (2, 2), (2, 3), (3, 1), (3, 2), (3, 3)]
-
-
-def all_of(signs, window):
-    return tuple(product(range(signs), repeat=window))
+from tests.plain import LENGTHS, WINDOWS, all_of, all_texts, rules_of_one_sign
 
 
 class NoWordsTest(unittest.TestCase):
@@ -164,13 +157,8 @@ class WindowsTest(unittest.TestCase):
 
 
 class OneWordTest(unittest.TestCase):
-    def each_rule(self, least, most):
-        for signs in (2, 3):
-            for sign in range(signs):
-                yield Rule(signs, 1, ((sign,),), least, most), sign, 1 if sign == 0 else 0
-
     def test_without_lengths(self):
-        for rule, sign, other in self.each_rule(1, None):
+        for rule, sign, other in rules_of_one_sign(1, None):
             self.assertEqual(cuts(rule, (sign, other, other, sign, sign)), [1, 4, 5])
             self.assertIsNone(longest(rule))
             self.assertTrue(is_ring(rule, ring(rule)))
@@ -188,7 +176,7 @@ class OneWordTest(unittest.TestCase):
             self.assertEqual(fewest_words(rule, 12, 3), [rest])
 
     def test_with_a_most(self):
-        for rule, sign, other in self.each_rule(1, 4):
+        for rule, sign, other in rules_of_one_sign(1, 4):
             self.assertEqual(longest(rule)[0], 4)
             self.assertIsNone(ring(rule))
             signs, few = rule.signs, rule.signs - 1
@@ -203,7 +191,7 @@ class OneWordTest(unittest.TestCase):
             self.assertIsNone(differences(rule))
 
     def test_with_a_least(self):
-        for rule, sign, other in self.each_rule(3, None):
+        for rule, sign, other in rules_of_one_sign(3, None):
             self.assertEqual(cuts(rule, (sign,) * 10), [3, 6, 9])
             self.assertEqual(cuts(rule, (other,) * 9 + (sign,) * 3), [10])
             self.assertIs(is_ring(rule, ((other,) * 3, (other,))), True)
@@ -216,7 +204,7 @@ class OneWordTest(unittest.TestCase):
             self.assertEqual(parting(rule, Rule(rule.signs, 1, rule.words, 3, 5)), (0, 0) + (other,) * 3)
 
     def test_least_is_most(self):
-        for rule, sign, _ in self.each_rule(3, 3):
+        for rule, sign, _ in rules_of_one_sign(3, 3):
             self.assertEqual(needless(rule), [(sign,)])
             self.assertIs(alike(rule, Rule(rule.signs, 3, (), 1, 3)), True)
             self.assertEqual(mean_first(rule), (3, 1))
@@ -234,7 +222,7 @@ class OneWordTest(unittest.TestCase):
                 self.assertEqual(differences(rule), window)
 
     def test_fitting(self):
-        for rule, sign, other in self.each_rule(1, None):
+        for rule, sign, other in rules_of_one_sign(1, None):
             text = tuple(range(rule.signs)) * 2
             seen = [(text, tuple(cuts(rule, text)))]
             self.assertEqual(fitting(rule.signs, 1, 1, None, seen), (1, [(sign,)], [(sign,)]))
